@@ -1,0 +1,385 @@
+"""What the tests share: calls by name, hands that key, and the document's words once more, done slowly."""
+
+import copy
+import itertools
+import random
+
+from keytalk.desk import answers
+
+END = 255
+CODES = dict(zip("ABCDEFGHIJKLMNOPQRSTUVWXYZ0123456789", (
+    ".- -... -.-. -.. . ..-. --. .... .. .--- -.- .-.. -- -. --- .--. --.- .-. ... - ..- ...- .-- -..- -.-- --.. "
+    "----- .---- ..--- ...-- ....- ..... -.... --... ---.. ----.").split()))
+
+
+def begin(p=2, lo=10, hi=10, e=0):
+    return [0, p, lo, hi, e]
+
+
+def word(letters):
+    if isinstance(letters, str):
+        letters = list(letters.encode())
+    return [1, len(letters)] + list(letters)
+
+
+def place(speaker, hearer):
+    return [2, speaker, hearer]
+
+
+def way(q, w, behind):
+    return [3, q, w, behind]
+
+
+def down(c, t):
+    return [5, c, t]
+
+
+def up(c, t):
+    return [6, c, t]
+
+
+def at(t):
+    return [7, t]
+
+
+OPEN = [4]
+AGAIN = [8]
+BACK = [9]
+
+
+def split_answers(row):
+    """The answers of each call, out of the one list."""
+    split, start = [], 0
+    while start < len(row):
+        split.append(row[start + 1:start + 1 + row[start]])
+        start += 1 + row[start]
+    return split
+
+
+def ask(calls):
+    """What each of the calls answers, where each answers one number alone."""
+    calls = list(calls)
+    split = split_answers(answers([number for call in calls for number in call]))
+    assert len(split) == len(calls), (split, calls)
+    assert all(len(one) == 1 for one in split), split
+    return [one[0] for one in split]
+
+
+def last(calls):
+    return ask(calls)[-1]
+
+
+def tail(before, calls):
+    """The answers of the calls that stand behind others."""
+    return ask(list(before) + list(calls))[len(before):]
+
+
+def script(places, words=None, p=None, lo=10, hi=10, e=0):
+    """Tells a script. A place is (speaker, hearer, {word: behind}); words are told in the order given, then as met."""
+    told = list(words or [])
+    for _, _, ways in places:
+        told += [letters for letters in ways if letters not in told]
+    parties = p or max(max(speaker, hearer) for speaker, hearer, _ in places) + 1
+    calls = [begin(parties, lo, hi, e)] + [word(letters) for letters in told]
+    calls += [place(speaker, hearer) for speaker, hearer, _ in places]
+    for q, (_, _, ways) in enumerate(places):
+        calls += [way(q, told.index(letters), behind) for letters, behind in ways.items()]
+    return calls
+
+
+def opened(places, **more):
+    return script(places, **more) + [OPEN]
+
+
+def pattern(letters):
+    """Marks and gaps in units, as the document's table has them."""
+    row = []
+    for letter in letters:
+        row += [3] * bool(row)
+        for k, sign in enumerate(CODES[letter]):
+            row += [1] * bool(k) + [1 if sign == "." else 3]
+    return row
+
+
+def key_lengths(c, t, lengths):
+    """Turns the key at t, and again behind each length."""
+    calls, pressed = [down(c, t)], True
+    for length in lengths:
+        t += length
+        pressed = not pressed
+        calls.append(down(c, t) if pressed else up(c, t))
+    return calls
+
+
+def spell(c, t, letters, unit, off=None):
+    """Keys a word from t on, each length off by what off has in turn."""
+    off = off or itertools.repeat(0)
+    return key_lengths(c, t, [k * unit + by for k, by in zip(pattern(letters), off)])
+
+
+def ends(calls):
+    """The tick of the last call."""
+    return calls[-1][-1]
+
+
+def say(c, t, letters, unit, wait):
+    """Keys a word, and waits behind it."""
+    calls = spell(c, t, letters, unit)
+    return calls + [at(ends(calls) + wait)]
+
+
+class Oracle:
+    """The document, call by call, with each set written out: slow, and on no account clever."""
+
+    def __init__(self):
+        self.s = None
+
+    def ask(self, calls):
+        given = []
+        for call in calls:
+            before = copy.deepcopy(self.s)
+            answer = self.one(call[0], call[2:] if call[0] == 1 else call[1:])
+            if answer < 0:
+                assert self.s == before
+            given.append(answer)
+        return given
+
+    def one(self, number, args):
+        name = "begin word place way open down up at again back".split()[number]
+        if number in (1, 2, 3, 4) and self.s["open"]:
+            return -16
+        if number > 4 and not self.s["open"]:
+            return -6
+        return getattr(self, name)(*([list(args)] if number == 1 else args))
+
+    def begin(self, p, lo, hi, e):
+        if p not in range(2, 9) or lo not in range(1, 4097) or hi not in range(lo, 4097) or e not in range(lo):
+            return -22
+        self.s = dict(p=p, lo=lo, hi=hi, e=e, words=[], places=[], open=False)
+        return 0
+
+    def word(self, letters):
+        text = bytes(letters).decode("latin-1")
+        if len(text) not in range(1, 13) or set(text) - set(CODES):
+            return -22
+        if text not in self.s["words"]:
+            if len(self.s["words"]) == 64:
+                return -28
+            self.s["words"].append(text)
+        return self.s["words"].index(text)
+
+    def place(self, speaker, hearer):
+        if speaker not in range(self.s["p"]) or hearer not in range(self.s["p"]) or speaker == hearer:
+            return -22
+        if len(self.s["places"]) == 32:
+            return -28
+        self.s["places"].append((speaker, hearer, {}))
+        return len(self.s["places"]) - 1
+
+    def way(self, q, w, behind):
+        if q not in range(len(self.s["places"])):
+            return -2
+        if w not in range(len(self.s["words"])) or behind not in list(range(32)) + [END]:
+            return -22
+        ways = self.s["places"][q][2]
+        if w in ways:
+            return -17
+        if len(ways) == 4:
+            return -28
+        ways[w] = behind
+        return len(ways)
+
+    def open(self):
+        places = self.s["places"]
+        known = list(range(len(places))) + [END]
+        if not places or any(not ways or set(ways.values()) - set(known) for _, _, ways in places):
+            return -61
+        for c in range(self.s["p"]):
+            refusal = self.part(places, c)
+            if refusal:
+                return refusal
+        self.s.update(open=True, here=0, now=0, said=[], lengths=[], down=False, turned=0,
+                      units=[set(range(self.s["lo"], self.s["hi"] + 1)) for _ in range(self.s["p"])])
+        return 0
+
+    @staticmethod
+    def through(places, c, q):
+        """The places that are gone through from q on at which c is neither, and what is come to behind them."""
+        gone, found, todo = set(), set(), [q]
+        while todo:
+            r = todo.pop()
+            if r == END or c in places[r][:2]:
+                found.add(r)
+            elif r not in gone:
+                gone.add(r)
+                todo += places[r][2].values()
+        return gone, found
+
+    def comes_to(self, places, c, q):
+        gone, found = self.through(places, c, q)
+        if any(not self.through(places, c, r)[1] for r in gone):
+            found.add(END)
+        return frozenset(found)
+
+    @staticmethod
+    def clear(places, c, state):
+        if not state - {END}:
+            return True
+        if END in state:
+            return False
+        froms, tos = {places[q][0] for q in state}, {places[q][1] for q in state}
+        words = {frozenset(places[q][2]) for q in state}
+        return len(froms) == len(tos) == 1 and (froms != {c} or len(words) == 1)
+
+    def part(self, places, c):
+        states = [self.comes_to(places, c, 0)]
+        for state in states:
+            if not self.clear(places, c, state):
+                return -71
+            inside = state - {END}
+            words = {w for q in inside for w in places[q][2]}
+            if len(words) > 16:
+                return -75
+            for w in sorted(words):
+                nexts = [places[q][2][w] for q in inside if w in places[q][2]]
+                behind = frozenset().union(*[self.comes_to(places, c, r) for r in nexts])
+                if behind not in states:
+                    if len(states) == 64:
+                        return -75
+                    states.append(behind)
+        return 0
+
+    def key(self, c, t, pressed):
+        s = self.s
+        if c not in range(s["p"]):
+            return -22
+        if s["here"] == END or s["places"][s["here"]][0] != c:
+            return -1
+        if t not in range(s["now"], 2 ** 31):
+            return -22
+        if s["down"] == pressed:
+            return -16
+        if (s["lengths"] or s["down"]) and t <= s["turned"]:
+            return -22
+        if len(s["lengths"]) == 160:
+            return -28
+        if s["lengths"] or s["down"]:
+            s["lengths"].append(min(t - s["turned"], 1000000))
+        s.update(down=pressed, turned=t, now=t)
+        return 0
+
+    def down(self, c, t):
+        return self.key(c, t, True)
+
+    def up(self, c, t):
+        return self.key(c, t, False)
+
+    def may_be(self, text, u, lasted):
+        s, row = self.s, pattern(text)
+        e, n = s["e"], len(s["lengths"])
+        if n > len(row) or any(abs(x - k * u) > e for x, k in zip(s["lengths"], row)):
+            return False
+        if s["down"]:
+            return n < len(row) and lasted <= row[n] * u + e
+        return n == 0 or n == len(row) or lasted <= row[n] * u + e
+
+    def over(self, text, u, lasted):
+        s = self.s
+        return len(pattern(text)) == len(s["lengths"]) and not s["down"] and lasted > 3 * u + s["e"]
+
+    def at(self, t):
+        s = self.s
+        if t not in range(s["now"], 2 ** 31):
+            return -22
+        may = set()
+        if s["here"] != END:
+            speaker, _, ways = s["places"][s["here"]]
+            lasted = min(t - s["turned"], 1000000)
+            may = {(w, u) for w in ways for u in s["units"][speaker] if self.may_be(s["words"][w], u, lasted)}
+        said = len({w for w, _ in may}) == 1 and all(self.over(s["words"][w], u, lasted) for w, u in may)
+        if said and len(s["said"]) == 64:
+            return -28
+        s["now"] = t
+        if not said:
+            return 0
+        w = min(may)[0]
+        s["said"].append((s["here"], w, t, speaker, s["units"][speaker]))
+        s["units"][speaker] = {u for _, u in may}
+        s.update(here=ways[w], lengths=[], down=False)
+        return 1
+
+    def again(self):
+        there_were = len(self.s["lengths"])
+        self.s.update(lengths=[], down=False)
+        return there_were
+
+    def back(self):
+        if not self.s["said"]:
+            return -11
+        here, w, _, speaker, units = self.s["said"].pop()
+        self.s["units"][speaker] = units
+        self.s.update(here=here, lengths=[], down=False)
+        return w
+
+
+class Chance:
+    """Lists of calls made by a seed: most make sense, some don't."""
+
+    FEW = ["E", "T", "A", "N", "I", "M", "S", "O", "EE", "TT", "ET", "EN", "R", "K", "5", "0", "AN", "SOS"]
+
+    def __init__(self, seed):
+        self.pick = random.Random(seed)
+        self.few = list(self.FEW)
+
+    def places(self, p, n):
+        """A script that may be kept or not; each place has as many ways as it happens to get."""
+        places = []
+        for _ in range(n):
+            speaker, hearer = self.pick.sample(range(p), 2)
+            words = self.pick.sample(self.few, self.pick.randint(1, 4))
+            nexts = list(range(n)) + [END]
+            places.append((speaker, hearer, {letters: self.pick.choice(nexts) for letters in words}))
+        return places
+
+    def range_of_units(self):
+        lo = self.pick.randint(1, 12)
+        hi = min(lo + self.pick.choice((0, 1, 3, 8, 30)), 4096)
+        return dict(lo=lo, hi=hi, e=self.pick.randrange(lo))
+
+    def told(self, p):
+        """A script of p parties that can be kept."""
+        while True:
+            calls = script(self.places(p, self.pick.randint(1, 5)), p=p, **self.range_of_units())
+            if Oracle().ask(calls + [OPEN])[-1] == 0:
+                return calls
+
+    def keyed(self, oracle, units):
+        """Some calls that go on from where the oracle is: mostly the spelling of a word of the place."""
+        s, pick = oracle.s, self.pick
+        t = s["now"] + pick.choice((0, 0, 1, 5, 40))
+        odd = pick.random()
+        if odd < 0.08 or s["here"] == END:
+            return [pick.choice((AGAIN, BACK, BACK, at(t), OPEN, word("E"), down(pick.randrange(3), t)))]
+        c, _, ways = s["places"][s["here"]]
+        if odd < 0.16:
+            return [pick.choice((down(c, t), up(c, t), up(c, max(t - 3, 0)), at(max(t - 9, 0)), down((c + 1) % s["p"], t)))]
+        if s["lengths"] or s["down"]:
+            return [AGAIN] if odd < 0.5 else [at(t + pick.randrange(4 * s["hi"] + s["e"]))]
+        text = s["words"][pick.choice(list(ways))]
+        off = (pick.randint(-s["e"], s["e"]) for _ in itertools.count())
+        calls = spell(c, t, text, units[c], off)
+        for cut in [k for k in range(1, len(calls)) if pick.random() < 0.1]:
+            calls.insert(cut, at(calls[cut - 1][-1]))
+        return calls + [at(ends(calls) + pick.randint(0, 3 * s["hi"] + s["e"] + 1) + pick.choice((0, 0, s["hi"])))]
+
+    def talk(self, most, p):
+        """A talk of p parties, of at most so many calls, and what the oracle answers of each."""
+        calls = self.told(p) + [OPEN]
+        oracle = Oracle()
+        expected = oracle.ask(calls)
+        units = [self.pick.randint(oracle.s["lo"], oracle.s["hi"]) for _ in range(p)]
+        while len(calls) < most:
+            more = self.keyed(oracle, units)[:most - len(calls)]
+            expected += oracle.ask(more)
+            calls += more
+        return calls, expected
