@@ -68,6 +68,7 @@ def words_at(place):
     return sorted([way.word for way in place.ways])
 
 
+# At each place of a state the party is one of the two, so it's enough to look at the other one.
 def is_clear(state, places, party):
     inside = places_in(state, places)
     if not inside:
@@ -75,11 +76,10 @@ def is_clear(state, places, party):
     if (state & OVER) != 0:
         return False
     first = inside[0]
-    alike = all([place.speaker == first.speaker for place in inside])
     if first.speaker != party:
-        return alike and all([place.hearer == party for place in inside])
+        return all([place.speaker == first.speaker for place in inside])
     same_hearer = all([place.hearer == first.hearer for place in inside])
-    return alike and same_hearer and all([words_at(place) == words_at(first) for place in inside])
+    return same_hearer and all([words_at(place) == words_at(first) for place in inside])
 
 
 # Of each word of a state, the state behind it.

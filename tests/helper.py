@@ -91,6 +91,20 @@ def opened(places, **more):
     return script(places, **more) + [OPEN]
 
 
+def cycle(speaker, hearer, letters, first, size):
+    """Places numbered from first on that go round."""
+    return [(speaker, hearer, {letters: first + (k + 1) % size}) for k in range(size)]
+
+
+def two_cycles(lead, first=7, second=9):
+    """Party 2 hears the same word over and over in one of two rounds, and can't know in which: so many states as
+    are in the lead, and the least number that both rounds divide."""
+    places = [(0, 2, {"E": k + 1}) for k in range(lead)]
+    places.append((0, 1, {"E": lead + 1, "T": lead + 1 + first}))
+    places += cycle(0, 2, "E", lead + 1, first)
+    return places + cycle(0, 2, "E", lead + 1 + first, second)
+
+
 def pattern(letters):
     """Marks and gaps in units, as the document's table has them."""
     row = []
@@ -362,7 +376,8 @@ class Chance:
             return [pick.choice((AGAIN, BACK, BACK, at(t), OPEN, word("E"), down(pick.randrange(3), t)))]
         c, _, ways = s["places"][s["here"]]
         if odd < 0.16:
-            return [pick.choice((down(c, t), up(c, t), up(c, max(t - 3, 0)), at(max(t - 9, 0)), down((c + 1) % s["p"], t)))]
+            other = (c + 1) % s["p"]
+            return [pick.choice((down(c, t), up(c, t), up(c, max(t - 3, 0)), at(max(t - 9, 0)), down(other, t)))]
         if s["lengths"] or s["down"]:
             return [AGAIN] if odd < 0.5 else [at(t + pick.randrange(4 * s["hi"] + s["e"]))]
         text = s["words"][pick.choice(list(ways))]

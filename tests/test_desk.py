@@ -7,8 +7,8 @@ import time
 import unittest
 
 from keytalk.desk import answers
-from tests.helper import BACK, END, OPEN, ask, at, begin, down, ends, key_lengths, opened, say, script, up, way, word
-from tests.test_opening import two_cycles
+from tests.helper import (BACK, END, OPEN, ask, at, begin, down, ends, key_lengths, opened, say, script, two_cycles, up,
+                          way, word)
 
 TALK = [number for call in opened([(0, 1, {"E": 0, "T": END})]) + say(0, 0, "E", 10, 31) + [BACK, BACK]
         for number in call]

@@ -197,6 +197,13 @@ class At(unittest.TestCase):
         self.assertIsNone(said(["E", "EE"], [15], 65, lo=10, hi=20, e=5))
         self.assertEqual(said(["E", "EE"], [15], 66, lo=10, hi=20, e=5), "E")
 
+    def test_a_longer_one_in_a_greater_unit_is_waited_for(self):
+        """T by 10 is over behind 32; but EE by 30 may go on with its gap till 92."""
+        self.assertIsNone(said(["T", "EE"], [30], 92, lo=10, hi=30, e=2))
+        self.assertEqual(said(["T", "EE"], [30], 93, lo=10, hi=30, e=2), "T")
+        self.assertIsNone(said(["T", "I"], [30], 32, lo=10, hi=30, e=2))
+        self.assertEqual(said(["T", "I"], [30], 33, lo=10, hi=30, e=2), "T")
+
     def test_it_is_over_by_all_units_that_may_be(self):
         self.assertIsNone(said(["E"], [11], 38, lo=10, hi=12, e=2))
         self.assertEqual(said(["E"], [11], 39, lo=10, hi=12, e=2), "E")

@@ -2,7 +2,7 @@
 
 import unittest
 
-from tests.helper import END, OPEN, Chance, Oracle, ask, begin, down, last, opened, place, tail, way, word
+from tests.helper import END, OPEN, Chance, Oracle, ask, begin, down, last, opened, place, tail, two_cycles, way, word
 
 LETTERS = "ETANIMSURWDKGOHVFLPJBXCYZQ"
 
@@ -13,20 +13,6 @@ def verdict(places, **more):
     answered = last(calls)
     assert answered == Oracle().ask(calls)[-1], (answered, places)
     return answered
-
-
-def cycle(speaker, hearer, letters, first, size):
-    """Places numbered from first on that go round."""
-    return [(speaker, hearer, {letters: first + (k + 1) % size}) for k in range(size)]
-
-
-def two_cycles(lead, first=7, second=9):
-    """Party 2 hears the same word over and over in one of two rounds, and can't know in which: so many states as
-    are in the lead, and the least number that both rounds divide."""
-    places = [(0, 2, {"E": k + 1}) for k in range(lead)]
-    places.append((0, 1, {"E": lead + 1, "T": lead + 1 + first}))
-    places += cycle(0, 2, "E", lead + 1, first)
-    return places + cycle(0, 2, "E", lead + 1 + first, second)
 
 
 def renumbered(places, names):

@@ -3,7 +3,8 @@
 import itertools
 import unittest
 
-from tests.helper import (AGAIN, BACK, END, OPEN, Chance, Oracle, ask, at, begin, down, ends, opened, say, spell, tail, up)
+from tests.helper import (AGAIN, BACK, END, OPEN, Chance, Oracle, ask, at, begin, down, ends, opened, say, spell, tail,
+                          up)
 
 # Two of three agree on something, and the third is told what came of it.
 MEETING = [
@@ -104,7 +105,10 @@ class AsItWasSaid(unittest.TestCase):
 class ByChance(unittest.TestCase):
     def talks(self, many, most=150):
         for seed in range(many):
-            yield seed, Chance(seed).talk(most, 2 + seed % 3)
+            chance = Chance(seed)
+            if seed % 2 == 1:
+                chance.few = ["E", "T", "EE", "TT", "ET", "I"]
+            yield seed, chance.talk(most, 2 + seed % 3)
 
     def test_all_answers_are_the_document_s(self):
         seen = set()
