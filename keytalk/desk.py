@@ -1,6 +1,9 @@
 """The desk: calls on one object, handed in as one list of numbers, and their answers in another."""
 
-from keytalk.refusals import BUSY, NOT_OPEN
+from keytalk.asking import answer_lengths, answer_letters, answer_likely, answer_many, answer_may
+from keytalk.asking import answer_part, answer_said, answer_states, answer_turn, answer_units
+from keytalk.parts import parts_of_all
+from keytalk.refusals import BUSY, NOT_OPEN, NOT_WHOLE
 from keytalk.script import Script, begin_refusal
 from keytalk.talk import Talk
 
@@ -13,9 +16,19 @@ DOWN = 5
 UP = 6
 AT = 7
 AGAIN = 8
+BACK = 9
+TURN = 10
+MAY = 11
+LIKELY = 12
+SAID = 13
+MANY = 14
+UNITS = 15
+LENGTHS = 16
+LETTERS = 17
+STATES = 18
 
 # How many whole numbers stand behind the number of each call; word has but its row.
-WHOLE_NUMBERS = (4, 0, 2, 3, 0, 2, 2, 1, 0, 0)
+WHOLE_NUMBERS = (4, 0, 2, 3, 0, 2, 2, 1, 0, 0, 0, 0, 0, 1, 0, 1, 3, 1, 1, 2)
 
 
 # There's a talk if it's open, else None.
@@ -32,9 +45,12 @@ class Desk:
         return refusal
 
     def open_talk(self):
-        refusal = self.script.open_refusal()
+        if not self.script.is_whole():
+            return NOT_WHOLE
+        parts = parts_of_all(self.script.places, self.script.parties)
+        refusal = parts[-1].refusal
         if refusal == 0:
-            self.talk = Talk(self.script)
+            self.talk = Talk(self.script, parts)
         return refusal
 
 
@@ -51,10 +67,8 @@ def answer_telling(desk, call, numbers):
     return desk.open_talk()
 
 
-# The calls that need it to be open.
+# The calls by which a talk goes on.
 def answer_talking(talk, call, numbers):
-    if talk is None:
-        return NOT_OPEN
     if call == DOWN:
         return talk.down(numbers[0], numbers[1])
     if call == UP:
@@ -66,12 +80,44 @@ def answer_talking(talk, call, numbers):
     return talk.back()
 
 
+# The calls that ask where a talk is, and what was said.
+def answer_of_talk(talk, call, numbers):
+    if call == TURN:
+        return answer_turn(talk)
+    if call == MAY:
+        return answer_may(talk)
+    if call == LIKELY:
+        return answer_likely(talk)
+    if call == SAID:
+        return answer_said(talk, numbers[0])
+    return answer_many(talk)
+
+
+# The calls that ask about one party.
+def answer_of_party(talk, call, numbers):
+    if call == UNITS:
+        return answer_units(talk, numbers[0])
+    if call == LENGTHS:
+        return answer_lengths(talk, numbers[0], numbers[1], numbers[2])
+    if call == STATES:
+        return answer_states(talk, numbers[0])
+    return answer_part(talk, numbers[0], numbers[1])
+
+
 def answer(desk, call, numbers):
     if call == BEGIN:
-        return desk.begin(numbers[0], numbers[1], numbers[2], numbers[3])
+        return [desk.begin(numbers[0], numbers[1], numbers[2], numbers[3])]
     if call <= OPEN:
-        return answer_telling(desk, call, numbers)
-    return answer_talking(desk.talk, call, numbers)
+        return [answer_telling(desk, call, numbers)]
+    if call == LETTERS:
+        return answer_letters(desk.script, numbers[0])
+    if desk.talk is None:
+        return [NOT_OPEN]
+    if call <= BACK:
+        return [answer_talking(desk.talk, call, numbers)]
+    if call <= MANY:
+        return answer_of_talk(desk.talk, call, numbers)
+    return answer_of_party(desk.talk, call, numbers)
 
 
 def end_of_call(calls, start):
@@ -86,7 +132,8 @@ def answers(calls):
     start = 0
     while start < len(calls):
         end = end_of_call(calls, start)
-        answered.append(1)
-        answered.append(answer(desk, calls[start], calls[start + 1:end]))
+        numbers = answer(desk, calls[start], calls[start + 1:end])
+        answered.append(len(numbers))
+        answered.extend(numbers)
         start = end
     return answered

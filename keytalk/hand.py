@@ -25,6 +25,9 @@ class Units:
     def any_left(self):
         return self.least <= self.greatest
 
+    def how_many(self):
+        return max(self.greatest - self.least + 1, 0)
+
 
 def divided_up(number, by):
     return (number + by - 1) // by

@@ -1,4 +1,4 @@
-"""Each one's part of a script: whether one who knows it alone always knows what to do."""
+"""Each one's part of a script: what they do in it, and whether one who knows it alone always knows that."""
 
 from keytalk.refusals import NOT_CLEAR, TOO_MANY
 
@@ -6,8 +6,19 @@ END = 255
 MOST_STATES = 64
 MOST_WORDS = 16
 
+NOTHING_TO_DO = 0
+SPEAKS = 1
+LISTENS = 2
+
 # A state is a whole number: bit q stands for place q, and the bit behind the 32 places for over.
 OVER = 4294967296
+
+
+# The rows of all states, in order; or, where the refusal isn't 0, why there are none.
+class Part:
+    def __init__(self, refusal, rows):
+        self.refusal = refusal
+        self.rows = rows
 
 
 def takes_part(place, party):
@@ -91,21 +102,52 @@ def states_behind(state, places, comes):
     return behind
 
 
+# Asked only of a clear state: at all of its places the party does the same as at the first.
+def kind_and_other(state, places, party):
+    inside = places_in(state, places)
+    if not inside:
+        return [NOTHING_TO_DO, 0]
+    if inside[0].speaker == party:
+        return [SPEAKS, inside[0].hearer]
+    return [LISTENS, inside[0].speaker]
+
+
+# What is told of a clear state, once all states behind it have their numbers.
+def row_of(state, places, party, behind, states):
+    row = kind_and_other(state, places, party)
+    row.append(len(behind))
+    for word in sorted(behind):
+        row.append(word)
+        row.append(states.index(behind[word]))
+    return row
+
+
 # State by state as they're numbered, so that the first refusal that is due is the one answered.
-def part_refusal(places, party):
+def part_of(places, party):
     comes = come_to_from_all(places, party)
     states = [comes[0]]
-    number = 0
-    while number < len(states):
-        if not is_clear(states[number], places, party):
-            return NOT_CLEAR
-        behind = states_behind(states[number], places, comes)
+    rows = []
+    while len(rows) < len(states):
+        state = states[len(rows)]
+        if not is_clear(state, places, party):
+            return Part(NOT_CLEAR, [])
+        behind = states_behind(state, places, comes)
         if len(behind) > MOST_WORDS:
-            return TOO_MANY
+            return Part(TOO_MANY, [])
         for word in sorted(behind):
             if behind[word] not in states:
                 states.append(behind[word])
         if len(states) > MOST_STATES:
-            return TOO_MANY
-        number += 1
-    return 0
+            return Part(TOO_MANY, [])
+        rows.append(row_of(state, places, party, behind, states))
+    return Part(0, rows)
+
+
+# Party by party, in order; none is looked for behind one that's refused, which then is the last.
+def parts_of_all(places, parties):
+    parts = []
+    for party in range(parties):
+        parts.append(part_of(places, party))
+        if parts[-1].refusal != 0:
+            break
+    return parts

@@ -1,8 +1,8 @@
 """A script while it's told: parties, a range of units, words, places and their ways."""
 
 from keytalk.hand import GREATEST_UNIT, Units, sent_of_word
-from keytalk.parts import END, part_refusal
-from keytalk.refusals import FULL, NO_SUCH, NOT_WHOLE, TWICE, WRONG
+from keytalk.parts import END
+from keytalk.refusals import FULL, NO_SUCH, TWICE, WRONG
 from keytalk.spelling import is_word
 
 FEWEST_PARTIES = 2
@@ -85,12 +85,3 @@ class Script:
         if not self.places:
             return False
         return all([len(place.ways) > 0 and self.leads_somewhere(place) for place in self.places])
-
-    def open_refusal(self):
-        if not self.is_whole():
-            return NOT_WHOLE
-        for party in range(self.parties):
-            refusal = part_refusal(self.places, party)
-            if refusal != 0:
-                return refusal
-        return 0

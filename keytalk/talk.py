@@ -17,7 +17,7 @@ class Thing:
         self.former = former
 
 
-# A way of the place by which it may be said, and the units by which it may be.
+# A way of the place, and the units by which it may be said.
 class Choice:
     def __init__(self, way, units):
         self.way = way
@@ -25,8 +25,9 @@ class Choice:
 
 
 class Talk:
-    def __init__(self, script):
+    def __init__(self, script, parts):
         self.script = script
+        self.parts = parts
         self.here = 0
         self.units = [script.units for party in range(script.parties)]
         self.came = Came()
@@ -72,13 +73,15 @@ class Talk:
         mine = self.units[self.script.places[self.here].speaker]
         return units_of_word(pattern, self.came, tick, mine, self.script.slack)
 
-    # The ways of the place whose words may be said, by what came till that tick; none at the end.
-    def choices(self, tick):
+    # The ways of the place, each with the units by which it may be said, by what came till that tick; none at the end.
+    def all_ways(self, tick):
         if self.here == END:
             return []
         ways = self.script.places[self.here].ways
-        all_ways = [Choice(way, self.units_of_way(way, tick)) for way in ways]
-        return [choice for choice in all_ways if choice.units.any_left()]
+        return [Choice(way, self.units_of_way(way, tick)) for way in ways]
+
+    def choices(self, tick):
+        return [choice for choice in self.all_ways(tick) if choice.units.any_left()]
 
     # What's said by that tick, or None. The words of a place are all different, so one choice is one word.
     def choice_said(self, tick):

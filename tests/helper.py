@@ -42,9 +42,40 @@ def at(t):
     return [7, t]
 
 
+def said(k):
+    return [13, k]
+
+
+def units(c):
+    return [15, c]
+
+
+def lengths(c, w, room=160):
+    return [16, c, w, room]
+
+
+def letters_of(w):
+    return [17, w]
+
+
+def states(c):
+    return [18, c]
+
+
+def part(c, i):
+    return [19, c, i]
+
+
 OPEN = [4]
 AGAIN = [8]
 BACK = [9]
+TURN = [10]
+MAY = [11]
+LIKELY = [12]
+MANY = [14]
+CALLS = "begin word place way open down up at again back turn may likely said many units lengths letters states part"
+MOST_CALLS = 700
+MOST_NUMBERS = 31000
 
 
 def split_answers(row):
@@ -56,11 +87,19 @@ def split_answers(row):
     return split
 
 
+def rows(calls):
+    """What each of the calls answers, number by number."""
+    calls = list(calls)
+    handed = [number for call in calls for number in call]
+    assert len(calls) <= MOST_CALLS and len(handed) <= MOST_NUMBERS, (len(calls), len(handed))
+    split = split_answers(answers(handed))
+    assert len(split) == len(calls), (split, calls)
+    return split
+
+
 def ask(calls):
     """What each of the calls answers, where each answers one number alone."""
-    calls = list(calls)
-    split = split_answers(answers([number for call in calls for number in call]))
-    assert len(split) == len(calls), (split, calls)
+    split = rows(calls)
     assert all(len(one) == 1 for one in split), split
     return [one[0] for one in split]
 
@@ -72,6 +111,27 @@ def last(calls):
 def tail(before, calls):
     """The answers of the calls that stand behind others."""
     return ask(list(before) + list(calls))[len(before):]
+
+
+def tail_rows(before, calls):
+    """The answers, number by number, of the calls that stand behind others."""
+    return rows(list(before) + list(calls))[len(before):]
+
+
+def look(p, words, things=8):
+    """All that can be asked of a talk of so many parties, words and things."""
+    calls = [TURN, MAY, LIKELY, MANY] + [said(k) for k in range(things + 1)]
+    for c in range(p + 1):
+        calls += [units(c), lengths(c, 0), states(c), part(c, 0), part(c, 1)]
+    return calls + [letters_of(w) for w in range(words + 1)]
+
+
+def part_rows(before, c):
+    """The rows of all states of a party, each without its 0."""
+    many = tail_rows(before, [states(c)])[0][0]
+    found = tail_rows(before, [part(c, i) for i in range(many + 1)])
+    assert found[-1] == [-2] and all(row[0] == 0 for row in found[:-1]), found
+    return [row[1:] for row in found[:-1]]
 
 
 def script(places, words=None, p=None, lo=10, hi=10, e=0):
@@ -148,21 +208,28 @@ class Oracle:
     def __init__(self):
         self.s = None
 
-    def ask(self, calls):
+    def rows(self, calls):
         given = []
         for call in calls:
-            before = copy.deepcopy(self.s)
+            # The calls from 10 on store nothing, so there's nothing to hold against.
+            before = copy.deepcopy(self.s) if call[0] <= 9 else self.s
             answer = self.one(call[0], call[2:] if call[0] == 1 else call[1:])
-            if answer < 0:
+            row = [answer] if isinstance(answer, int) else answer
+            if row[0] < 0:
                 assert self.s == before
-            given.append(answer)
+            given.append(row)
         return given
 
+    def ask(self, calls):
+        given = self.rows(calls)
+        assert all(len(row) == 1 for row in given), given
+        return [row[0] for row in given]
+
     def one(self, number, args):
-        name = "begin word place way open down up at again back".split()[number]
+        name = CALLS.split()[number]
         if number in (1, 2, 3, 4) and self.s["open"]:
             return -16
-        if number > 4 and not self.s["open"]:
+        if number > 4 and name != "letters" and not self.s["open"]:
             return -6
         return getattr(self, name)(*([list(args)] if number == 1 else args))
 
@@ -208,11 +275,12 @@ class Oracle:
         known = list(range(len(places))) + [END]
         if not places or any(not ways or set(ways.values()) - set(known) for _, _, ways in places):
             return -61
+        parts = []
         for c in range(self.s["p"]):
-            refusal = self.part(places, c)
-            if refusal:
-                return refusal
-        self.s.update(open=True, here=0, now=0, said=[], lengths=[], down=False, turned=0,
+            parts.append(self.part_of(places, c))
+            if isinstance(parts[-1], int):
+                return parts[-1]
+        self.s.update(open=True, here=0, now=0, said=[], lengths=[], down=False, turned=0, parts=parts,
                       units=[set(range(self.s["lo"], self.s["hi"] + 1)) for _ in range(self.s["p"])])
         return 0
 
@@ -245,8 +313,16 @@ class Oracle:
         words = {frozenset(places[q][2]) for q in state}
         return len(froms) == len(tos) == 1 and (froms != {c} or len(words) == 1)
 
-    def part(self, places, c):
-        states = [self.comes_to(places, c, 0)]
+    @staticmethod
+    def kind(places, c, state):
+        if not state - {END}:
+            return [0, 0]
+        speaker, hearer, _ = places[min(state)]
+        return [1, hearer] if speaker == c else [2, speaker]
+
+    def part_of(self, places, c):
+        """The rows of the states, or why there are none."""
+        states, found = [self.comes_to(places, c, 0)], []
         for state in states:
             if not self.clear(places, c, state):
                 return -71
@@ -254,6 +330,7 @@ class Oracle:
             words = {w for q in inside for w in places[q][2]}
             if len(words) > 16:
                 return -75
+            found.append(self.kind(places, c, state) + [len(words)])
             for w in sorted(words):
                 nexts = [places[q][2][w] for q in inside if w in places[q][2]]
                 behind = frozenset().union(*[self.comes_to(places, c, r) for r in nexts])
@@ -261,7 +338,8 @@ class Oracle:
                     if len(states) == 64:
                         return -75
                     states.append(behind)
-        return 0
+                found[-1] += [w, states.index(behind)]
+        return found
 
     def key(self, c, t, pressed):
         s = self.s
@@ -301,15 +379,19 @@ class Oracle:
         s = self.s
         return len(pattern(text)) == len(s["lengths"]) and not s["down"] and lasted > 3 * u + s["e"]
 
+    def all_that_may_be(self, t):
+        s = self.s
+        if s["here"] == END:
+            return set()
+        speaker, _, ways = s["places"][s["here"]]
+        lasted = min(t - s["turned"], 1000000)
+        return {(w, u) for w in ways for u in s["units"][speaker] if self.may_be(s["words"][w], u, lasted)}
+
     def at(self, t):
         s = self.s
         if t not in range(s["now"], 2 ** 31):
             return -22
-        may = set()
-        if s["here"] != END:
-            speaker, _, ways = s["places"][s["here"]]
-            lasted = min(t - s["turned"], 1000000)
-            may = {(w, u) for w in ways for u in s["units"][speaker] if self.may_be(s["words"][w], u, lasted)}
+        may, lasted = self.all_that_may_be(t), min(t - s["turned"], 1000000)
         said = len({w for w, _ in may}) == 1 and all(self.over(s["words"][w], u, lasted) for w, u in may)
         if said and len(s["said"]) == 64:
             return -28
@@ -317,6 +399,7 @@ class Oracle:
         if not said:
             return 0
         w = min(may)[0]
+        speaker, _, ways = s["places"][s["here"]]
         s["said"].append((s["here"], w, t, speaker, s["units"][speaker]))
         s["units"][speaker] = {u for _, u in may}
         s.update(here=ways[w], lengths=[], down=False)
@@ -334,6 +417,54 @@ class Oracle:
         self.s["units"][speaker] = units
         self.s.update(here=here, lengths=[], down=False)
         return w
+
+    def turn(self):
+        here = self.s["here"]
+        return 0 if here == END else [1, here] + list(self.s["places"][here][:2])
+
+    def may(self):
+        if self.s["here"] == END:
+            return 0
+        may, row = self.all_that_may_be(self.s["now"]), []
+        ways = self.s["places"][self.s["here"]][2]
+        for w in ways:
+            row += [w, len([u for v, u in may if v == w])]
+        return [len(ways)] + row
+
+    def likely(self):
+        words = {w for w, _ in self.all_that_may_be(self.s["now"])}
+        return -11 if not words else -33 if len(words) > 1 else min(words)
+
+    def said(self, k):
+        return -2 if len(self.s["said"]) < k + 1 else [0] + list(self.s["said"][k][:3])
+
+    def many(self):
+        return len(self.s["said"])
+
+    def units(self, c):
+        if c not in range(self.s["p"]):
+            return -22
+        may = self.s["units"][c]
+        return [len(may), min(may), max(may)]
+
+    def lengths(self, c, w, room):
+        if c not in range(self.s["p"]) or w not in range(len(self.s["words"])):
+            return -22
+        row = [k * min(self.s["units"][c]) for k in pattern(self.s["words"][w])]
+        return -28 if len(row) > room else [len(row)] + row
+
+    def letters(self, w):
+        if w not in range(len(self.s["words"])):
+            return -2
+        return [len(self.s["words"][w])] + [ord(letter) for letter in self.s["words"][w]]
+
+    def states(self, c):
+        return -22 if c not in range(self.s["p"]) else len(self.s["parts"][c])
+
+    def part(self, c, i):
+        if c not in range(self.s["p"]):
+            return -22
+        return -2 if i not in range(len(self.s["parts"][c])) else [0] + self.s["parts"][c][i]
 
 
 class Chance:
@@ -386,6 +517,15 @@ class Chance:
         for cut in [k for k in range(1, len(calls)) if pick.random() < 0.1]:
             calls.insert(cut, at(calls[cut - 1][-1]))
         return calls + [at(ends(calls) + pick.randint(0, 3 * s["hi"] + s["e"] + 1) + pick.choice((0, 0, s["hi"])))]
+
+    def asked(self, oracle):
+        """A call that asks something, mostly something that's there."""
+        pick, s = self.pick, oracle.s
+        c, w = pick.randrange(s["p"] + 1), pick.randrange(len(s["words"]) + 1)
+        k = pick.randrange(len(s["said"]) + 1 if s["open"] else 2)
+        i = pick.randrange(len(s["parts"][c]) + 1 if s["open"] and c < s["p"] else 2)
+        return pick.choice((TURN, MAY, MAY, LIKELY, LIKELY, MANY, said(k), units(c), units(c), states(c), part(c, i),
+                            lengths(c, w, pick.randrange(24)), letters_of(w)))
 
     def talk(self, most, p):
         """A talk of p parties, of at most so many calls, and what the oracle answers of each."""
